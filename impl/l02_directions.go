@@ -52,6 +52,12 @@ func (h heading) vector() Point {
 	return v
 }
 
+// offset rounds X and Y towards 0 before they are added to a point: rounding a sum would round negative places the other way.
+func (h heading) offset(radius int64) Point {
+	v := h.vector()
+	return Point{v.X * radius / UnitLength, v.Y * radius / UnitLength}
+}
+
 func (p Point) plus(q Point) Point { return Point{p.X + q.X, p.Y + q.Y} }
 
 func (p Point) minus(q Point) Point { return Point{p.X - q.X, p.Y - q.Y} }
@@ -74,9 +80,7 @@ func PlaceAt(from Point, d, radius int64) (Point, int64) {
 	if !heading(d).valid() || radius < 0 || radius > MaxRadius {
 		return Point{}, ErrRange
 	}
-	v := heading(d).vector()
-	// The offset is rounded before it is added: rounding the sum would round negative places the other way.
-	p := from.plus(Point{v.X * radius / UnitLength, v.Y * radius / UnitLength})
+	p := from.plus(heading(d).offset(radius))
 	if !ValidPlace(p) {
 		return Point{}, ErrFull
 	}
